@@ -176,6 +176,15 @@ func fullStores() []impl.Store {
 	return []impl.Store{numberedStore(impl.MaxObjects), late, both}
 }
 
+// wantAsItWas is what a put answers beside the codes of its own.
+func wantAsItWas(t *testing.T, what string, was, got impl.Store, ver int) {
+	t.Helper()
+	wantStore(t, what, got, was)
+	if ver != 0 {
+		t.Error(what, "version", ver)
+	}
+}
+
 func TestPutAbsentCodesInOrder(t *testing.T) {
 	big := text(impl.MaxData + 1)
 	for i, s := range append(fullStores(), mixedStore()) {
@@ -198,12 +207,8 @@ func TestPutAbsentCodesInOrder(t *testing.T) {
 			what := fmt.Sprintf("PutAbsent %d %q, %d bytes", i, c.key, len(c.data))
 			x, ver, code := impl.PutAbsent(s, c.key, c.data)
 			wantCode(t, what, code, c.want)
-			if code == impl.OK {
-				continue
-			}
-			wantStore(t, what, x, s)
-			if ver != 0 {
-				t.Error(what, "version", ver)
+			if code != impl.OK {
+				wantAsItWas(t, what, s, x, ver)
 			}
 		}
 	}
@@ -238,12 +243,8 @@ func TestPutVersionCodesInOrder(t *testing.T) {
 			what := fmt.Sprintf("PutVersion %d %q %d, %d bytes", i, c.key, c.ver, len(c.data))
 			x, ver, code := impl.PutVersion(s, c.key, c.ver, c.data)
 			wantCode(t, what, code, c.want)
-			if code == impl.OK {
-				continue
-			}
-			wantStore(t, what, x, s)
-			if ver != 0 {
-				t.Error(what, "version", ver)
+			if code != impl.OK {
+				wantAsItWas(t, what, s, x, ver)
 			}
 		}
 	}
