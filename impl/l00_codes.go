@@ -1,5 +1,10 @@
 package impl
 
+import (
+	"strconv"
+	"strings"
+)
+
 const (
 	MaxText = 65536
 	MaxList = 4096
@@ -98,4 +103,44 @@ func anyTooLong(texts ...string) bool {
 		}
 	}
 	return false
+}
+
+func within(n, low, high int) bool {
+	return low <= n && n <= high
+}
+
+// maxDigits is how many digits a number's text has at most.
+const maxDigits = 18
+
+// readNumber leans on strconv writing each number in one way only: a text that it writes otherwise has a nought or a sign too many.
+func readNumber(t string) (int, bool) {
+	n, err := strconv.Atoi(t)
+	if err != nil || strconv.Itoa(n) != t || len(strings.TrimPrefix(t, "-")) > maxDigits {
+		return 0, false
+	}
+	return n, true
+}
+
+func numbersText(numbers ...int) string {
+	texts := make([]string, len(numbers))
+	for i, n := range numbers {
+		texts[i] = strconv.Itoa(n)
+	}
+	return strings.Join(texts, ",")
+}
+
+// readNumbers reads a text of just as many numbers as there are places for them.
+func readNumbers(t string, places ...*int) bool {
+	parts := strings.SplitN(t, ",", len(places)+1)
+	if len(parts) != len(places) {
+		return false
+	}
+	for i, part := range parts {
+		n, ok := readNumber(part)
+		if !ok {
+			return false
+		}
+		*places[i] = n
+	}
+	return true
 }
