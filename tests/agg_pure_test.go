@@ -10,15 +10,16 @@ import (
 
 var strangeSample = impl.Sample{T: -77, V: 1 << 40}
 
-// guardedList is the list in memory of its own, with strange samples behind its end.
-func guardedList(list []impl.Sample) []impl.Sample {
-	room := slices.Repeat([]impl.Sample{strangeSample}, len(list)+spare)
+// guardedList is the list in memory of its own, with strange elements behind its end.
+func guardedList[T any](list []T, strange T) []T {
+	room := slices.Repeat([]T{strange}, len(list)+spare)
 	copy(room, list)
 	return room[:len(list)]
 }
 
-func untouchedList(g, list []impl.Sample) bool {
-	return slices.Equal(g[:cap(g)], append(slices.Clone(list), slices.Repeat([]impl.Sample{strangeSample}, spare)...))
+// untouchedList tells whether a guarded list is as it was made, behind its end too.
+func untouchedList[T comparable](g, list []T, strange T) bool {
+	return slices.Equal(g[:cap(g)], append(slices.Clone(list), slices.Repeat([]T{strange}, spare)...))
 }
 
 // aggAnswers is what the calls of aggregates say of a list, of its aggregate and of all that is handed in besides.
@@ -42,9 +43,9 @@ func pureLists() [][]impl.Sample {
 
 func TestP1NoCallChangesItsSamples(t *testing.T) {
 	for _, list := range pureLists() {
-		g := guardedList(list)
+		g := guardedList(list, strangeSample)
 		aggAnswers(g)
-		if !untouchedList(g, list) {
+		if !untouchedList(g, list, strangeSample) {
 			t.Errorf("samples %.60s are changed", fmt.Sprint(list))
 		}
 	}
@@ -57,7 +58,7 @@ func TestP1AlikeSamplesHaveAlikeAnswers(t *testing.T) {
 		first = append(first, aggAnswers(list))
 	}
 	for i, list := range slices.Backward(lists) {
-		if aggAnswers(guardedList(list)) != first[i] {
+		if aggAnswers(guardedList(list, strangeSample)) != first[i] {
 			t.Errorf("samples %.60s have two answers", fmt.Sprint(list))
 		}
 	}
