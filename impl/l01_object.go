@@ -183,6 +183,9 @@ func (h *shelf) close() Store {
 	return s
 }
 
+// copied is the store as it was, in memory of its own.
+func (s Store) copied() Store { return s.open().close() }
+
 func (h *shelf) versionFault(key string, ver int) int {
 	o, there := h.objects[key]
 	switch {
