@@ -60,10 +60,10 @@ func twoTiers(raw, windows int) impl.State {
 	if windows > 20 {
 		s.Entries = append(s.Entries, impl.Entry{Tier: 1, From: 20, To: windows, Key: keyed(1, 20, 1)})
 	}
-	return append1(s, impl.Entry{To: raw, Key: keyed(0, 1, 2)})
+	return withEntry(s, impl.Entry{To: raw, Key: keyed(0, 1, 2)})
 }
 
-func append1(s impl.State, e impl.Entry) impl.State {
+func withEntry(s impl.State, e impl.Entry) impl.State {
 	s.Entries = append(s.Entries, e)
 	return s
 }
