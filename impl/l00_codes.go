@@ -72,7 +72,7 @@ func NameOK(t string) bool {
 
 // CodeWord is the word of a code, and the empty text for a number that is none.
 func CodeWord(code int) string {
-	if code < 0 || code >= len(codeWords) {
+	if !isCode(code) {
 		return ""
 	}
 	return codeWords[code]
@@ -86,6 +86,11 @@ func CodeOf(word string) int {
 		}
 	}
 	return -1
+}
+
+// isCode reports whether the table has that code.
+func isCode(code int) bool {
+	return within(code, 0, len(codeWords)-1)
 }
 
 func isLetter(b byte) bool {

@@ -65,3 +65,29 @@ func wantCode(t *testing.T, what string, got, want int) {
 		t.Errorf("%s: code %d, want %d", what, got, want)
 	}
 }
+
+// wantSeen checks that all of these were seen that many times at least, and that no others were.
+func wantSeen[K comparable](t *testing.T, seen map[K]int, least int, all ...K) {
+	t.Helper()
+	for _, k := range all {
+		if seen[k] < least {
+			t.Errorf("hardly ever %v: %d times", k, seen[k])
+		}
+	}
+	for k := range seen {
+		if !slices.Contains(all, k) {
+			t.Errorf("seen, though there is no such thing: %v", k)
+		}
+	}
+}
+
+// numbered pairs each of the rows' numbers with the number of its row.
+func numbered(rows ...[]int) [][2]int {
+	var pairs [][2]int
+	for i, row := range rows {
+		for _, n := range row {
+			pairs = append(pairs, [2]int{i, n})
+		}
+	}
+	return pairs
+}

@@ -182,18 +182,8 @@ func TestP10NoStepChangesMoreThanOneObject(t *testing.T) {
 			}
 		}
 	}
-	all := []ending{
+	wantSeen(t, ends, 20, []ending{
 		{}, {code: impl.ErrIdle}, {code: impl.ErrLate}, {code: impl.ErrFull},
 		{put: true, done: true}, {put: true, anew: true}, {put: true, code: impl.ErrFull},
-	}
-	for _, e := range all {
-		if ends[e] < 20 {
-			t.Errorf("hardly ever %v: %v", e, ends)
-		}
-	}
-	for e := range ends {
-		if !slices.Contains(all, e) {
-			t.Errorf("an ending that is none: %v", e)
-		}
-	}
+	}...)
 }

@@ -52,58 +52,25 @@ func pureIntakeStores(t *testing.T) []impl.Store {
 }
 
 // deliverySaid is all that the calls of ingesters answer of a store and an ingester.
-func deliverySaid(x impl.Store, g impl.Ingester) (impl.Store, impl.Ingester, string) {
+func deliverySaid(x impl.Store, g impl.Ingester, _ int) (impl.Store, impl.Ingester, string) {
 	y, h, done, code := impl.StepIngester(x, g)
 	said := fmt.Sprint(y, h, done, code, impl.IngesterOK(g), impl.SameIngester(g, g), impl.SameIngester(g, h))
 	return y, h, said
 }
 
-func TestP1NoDeliveryChangesItsStoreOrItsIngester(t *testing.T) {
-	for i, x := range pureIntakeStores(t) {
-		for k, g := range pureIngesters() {
-			a, b := guarded(x), guardedIngester(g)
-			y, h, said := deliverySaid(a, b)
-			if !untouched(a, x) || !untouchedIngester(b, g) {
-				t.Errorf("ingester %d over store %d: they are changed", k, i)
-			}
-			// Nor does what is done to the answer, nor the other way round.
-			before := fmt.Sprint(y, h)
-			fill(a.Objects[:cap(a.Objects)])
-			fillSamples(b.Batch)
-			if fmt.Sprint(y, h) != before {
-				t.Errorf("ingester %d over store %d: its arguments' memory is answered", k, i)
-			}
-			a, b = guarded(x), guardedIngester(g)
-			y, h, again := deliverySaid(a, b)
-			fill(y.Objects[:cap(y.Objects)])
-			fillSamples(h.Batch)
-			if !untouched(a, x) || !untouchedIngester(b, g) || again != said {
-				t.Errorf("ingester %d over store %d: its arguments' memory is lent", k, i)
-			}
-		}
-	}
+// pureIngesterKind has one clock only, as no ingester is handed one.
+func pureIngesterKind(t *testing.T) actors[impl.Ingester] {
+	t.Helper()
+	return actors[impl.Ingester]{pureIngesters(), pureIntakeStores(t), []int{0}, guardedIngester, untouchedIngester, func(g impl.Ingester) { fillSamples(g.Batch) }, deliverySaid}
 }
 
-func TestP1AlikeIngestersHaveAlikeDeliveries(t *testing.T) {
-	stores, ingesters := pureIntakeStores(t), pureIngesters()
-	var first []string
-	for _, x := range stores {
-		for _, g := range ingesters {
-			_, _, said := deliverySaid(x, g)
-			first = append(first, said)
-		}
-	}
-	// Backwards, so that each call has others ahead of it, and with another capacity.
-	at := len(first)
-	for _, x := range slices.Backward(stores) {
-		for _, g := range slices.Backward(ingesters) {
-			at--
-			if _, _, said := deliverySaid(guarded(x), guardedIngester(g)); said != first[at] {
-				t.Errorf("a step of %.200s hangs on what was called ahead", fmt.Sprint(g))
-			}
-		}
-	}
+func TestP1NoDeliveryChangesItsStoreOrItsIngester(t *testing.T) {
+	pureIngesterKind(t).wantUnchanged(t)
 }
+
+func TestP1AlikeIngestersHaveAlikeDeliveries(t *testing.T) { pureIngesterKind(t).wantAlike(t) }
+
+func TestP1DeliveriesOfOneIngesterStayApart(t *testing.T) { pureIngesterKind(t).wantApart(t) }
 
 // givenSaid is what GiveBatch answers, in words too.
 func givenSaid(g impl.Ingester, list []impl.Sample) (impl.Ingester, string) {
@@ -158,13 +125,7 @@ func TestP1AlikeBatchesHaveAlikeAnswers(t *testing.T) {
 func TestP1IngestersOfNilAndOfEmptyLists(t *testing.T) {
 	for _, g := range []impl.Ingester{{}, {Id: 9}, {Id: 10}, {Seq: 1}, {Put: true}, {Seq: 1, To: 1, Put: true}} {
 		none, empty := g, ingesterWith(g, func(g *impl.Ingester) { g.Batch = []impl.Sample{} })
-		for _, x := range pureIntakeStores(t) {
-			_, _, one := deliverySaid(x, none)
-			_, _, other := deliverySaid(x, empty)
-			if one != other {
-				t.Errorf("%v: %s of nil, %s of an empty list", g, one, other)
-			}
-		}
+		pureIngesterKind(t).wantSameOfEmpty(t, none, empty)
 		for _, list := range batchCases() {
 			_, one := givenSaid(none, list)
 			_, other := givenSaid(empty, list)
@@ -179,30 +140,10 @@ func TestP1IngestersOfNilAndOfEmptyLists(t *testing.T) {
 		if one != other {
 			t.Errorf("%v: %s given nil, %s given an empty list", g, one, other)
 		}
-		for _, next := range []int{0, 1, 5, lastNext} {
-			_, _, none := deliverySaid(impl.Store{Next: next}, g)
-			_, _, empty := deliverySaid(impl.Store{Next: next, Objects: []impl.Object{}}, g)
-			if none != empty {
-				t.Errorf("%v: %s of nil, %s of an empty list of objects", g, none, empty)
-			}
-		}
 	}
 }
 
-// Two answers of alike arguments share no memory either.
-func TestP1DeliveriesOfOneIngesterStayApart(t *testing.T) {
-	for i, x := range pureIntakeStores(t) {
-		for k, g := range pureIngesters() {
-			y, h, _, _ := impl.StepIngester(x, g)
-			z, u, _, _ := impl.StepIngester(x, g)
-			before := fmt.Sprint(z, u)
-			fill(y.Objects[:cap(y.Objects)])
-			fillSamples(h.Batch)
-			if fmt.Sprint(z, u) != before {
-				t.Errorf("ingester %d over store %d: two steps share memory", k, i)
-			}
-		}
-	}
+func TestP1BatchesOfOneListStayApart(t *testing.T) {
 	list := samplesOf(3, 1, 1, 2)
 	a, _ := impl.GiveBatch(impl.Ingester{Id: 2}, list)
 	b, _ := impl.GiveBatch(impl.Ingester{Id: 2}, list)

@@ -2,7 +2,6 @@ package tests
 
 import (
 	"math/rand"
-	"slices"
 	"testing"
 
 	"loop.example/g00601/impl"
@@ -197,21 +196,15 @@ func TestP9NoStepChangesMoreThanOneObject(t *testing.T) {
 			}
 		}
 	}
-	codes := [][]int{
-		{impl.OK, impl.ErrIdle}, {impl.OK, impl.ErrHeld, impl.ErrDamaged, impl.ErrFull}, {impl.OK, impl.ErrFull}, {impl.OK, impl.ErrStale},
-		{impl.OK, impl.ErrNone, impl.ErrDamaged, impl.ErrMany}, {impl.OK, impl.ErrFull}, {impl.OK, impl.ErrStale, impl.ErrFull}, {impl.OK, impl.ErrStale, impl.ErrDamaged, impl.ErrFull},
-	}
-	for phase, list := range codes {
-		for _, code := range list {
-			if seen[[2]int{phase, code}] < 3 {
-				t.Errorf("phase %d had code %d only %d times", phase, code, seen[[2]int{phase, code}])
-			}
-		}
-	}
-	// And no others: a number that was just found free is never taken, so that ErrThere is not told.
-	for pair := range seen {
-		if !slices.Contains(codes[pair[0]], pair[1]) {
-			t.Errorf("phase %d had code %d", pair[0], pair[1])
-		}
-	}
+	// A number that was just found free is never taken, so that ErrThere is not told.
+	wantSeen(t, seen, 3, numbered(
+		[]int{impl.OK, impl.ErrIdle},
+		[]int{impl.OK, impl.ErrHeld, impl.ErrDamaged, impl.ErrFull},
+		[]int{impl.OK, impl.ErrFull},
+		[]int{impl.OK, impl.ErrStale},
+		[]int{impl.OK, impl.ErrNone, impl.ErrDamaged, impl.ErrMany},
+		[]int{impl.OK, impl.ErrFull},
+		[]int{impl.OK, impl.ErrStale, impl.ErrFull},
+		[]int{impl.OK, impl.ErrStale, impl.ErrDamaged, impl.ErrFull},
+	)...)
 }

@@ -44,14 +44,16 @@ func TestP9Fetching(t *testing.T) {
 	stepped(t, "of an empty list", x, empty, 0, x, inPhase(none, impl.WoPut))
 }
 
-// Inputs of any tier are read as their tier's data, within the range of the Job.
-func TestP9FetchingWindows(t *testing.T) {
-	x := fetchStore()
-	for i, c := range []struct {
-		job span
-		e   impl.Entry
-		got impl.Agg
-	}{
+// fetchCase is what an entry of fetchStore has of a range.
+type fetchCase struct {
+	s   span
+	e   impl.Entry
+	got impl.Agg
+}
+
+// fetchCases are of buckets, by where these begin, and of raw data.
+func fetchCases() []fetchCase {
+	return []fetchCase{
 		{span{0, 20}, impl.Entry{Tier: 1, From: 5, To: 10, Key: keyed(1, 5, 5)}, impl.Agg{Count: 3, Sum: 12, Min: 1, Max: 9, First: 2, Last: 9}},
 		{span{0, 10}, impl.Entry{Tier: 1, From: 5, To: 10, Key: keyed(1, 5, 5)}, impl.Agg{Count: 2, Sum: 3, Min: 1, Max: 2, First: 2, Last: 1}},
 		{span{6, 11}, impl.Entry{Tier: 1, From: 5, To: 10, Key: keyed(1, 5, 5)}, impl.Agg{Count: 1, Sum: 9, Min: 9, Max: 9, First: 9, Last: 9}},
@@ -59,9 +61,15 @@ func TestP9FetchingWindows(t *testing.T) {
 		{span{0, 20}, impl.Entry{Tier: 1, From: 15, To: 20, Key: keyed(1, 15, 5)}, impl.Agg{}},
 		{span{0, 9}, impl.Entry{From: 8, To: 12, Key: keyed(0, 3, 2)}, impl.Agg{Count: 1, Sum: 1, Min: 1, Max: 1, First: 1, Last: 1}},
 		{span{99995, 100000}, impl.Entry{From: 8, To: 12, Key: keyed(0, 3, 2)}, impl.Agg{}},
-	} {
+	}
+}
+
+// Inputs of any tier are read as their tier's data, within the range of the Job.
+func TestP9FetchingWindows(t *testing.T) {
+	x := fetchStore()
+	for i, c := range fetchCases() {
 		for _, tier := range []int{1, 2} {
-			w := impl.Worker{Phase: 4, Token: 1, Job: publishing(1, tier, c.job.from, c.job.to), Inputs: []impl.Entry{c.e}}
+			w := impl.Worker{Phase: 4, Token: 1, Job: publishing(1, tier, c.s.from, c.s.to), Inputs: []impl.Entry{c.e}}
 			stepped(t, fmt.Sprint("window ", i), x, w, 0, x, workerWith(w, func(w *impl.Worker) { w.Phase, w.Inputs, w.Got = impl.WoPut, nil, c.got }))
 		}
 	}
@@ -80,10 +88,20 @@ func TestP9InputsThatAreGone(t *testing.T) {
 	}
 }
 
+// damagedRaw are data that no raw entry can have.
+func damagedRaw() []string {
+	return []string{"what", " ", "10=3 ", "10=3  11=4", "11=4 10=3", "10=1000001", "100000=1", "10=03", "10:1,9,9,9,9,9", "0=0 1=0 2=0 3=0 4=0 5=0 6=0 7=0 8=0", text(impl.MaxData)}
+}
+
+// damagedWindows are data that no window can have, or that count more than there are times.
+func damagedWindows() []string {
+	return []string{"what", "10=3", "10:1,9,9,9,9", "10:0,0,0,0,0,0", "10:1,9,9,9,9,9 10:1,9,9,9,9,9", "10:100001,0,0,0,0,0", "0:100000,0,0,0,0,0 50:1,9,9,9,9,9", "10:50000,0,0,0,0,0 11:50001,0,0,0,0,0"}
+}
+
 func TestP9InputsThatAreDamaged(t *testing.T) {
 	x := fetchStore()
 	w := busyWorker(impl.WoFetch)
-	for _, data := range []string{"what", "10=3 ", "10=3  11=4", "11=4 10=3", "10=1000001", "100000=1", "10:1,9,9,9,9,9", "0=0 1=0 2=0 3=0 4=0 5=0 6=0 7=0 8=0"} {
+	for _, data := range damagedRaw() {
 		anew(t, "raw data", laid(x, keyed(0, 3, 2), data), w, 0, impl.ErrDamaged)
 		stepped(t, "raw data of the second one", laid(x, keyed(0, 4, 3), data), workerWith(w, func(w *impl.Worker) { w.Inputs = w.Inputs[:1] }), 0, laid(x, keyed(0, 4, 3), data),
 			workerWith(w, func(w *impl.Worker) {
@@ -93,28 +111,45 @@ func TestP9InputsThatAreDamaged(t *testing.T) {
 	for _, tier := range []int{1, 2} {
 		key := keyed(tier, 10, 4)
 		w := workerWith(w, func(w *impl.Worker) { w.Inputs[0] = impl.Entry{Tier: tier, From: 10, To: 15, Key: key} })
-		for _, data := range []string{"what", "10=3", "10:1,9,9,9,9", "10:0,0,0,0,0,0", "10:1,9,9,9,9,9 10:1,9,9,9,9,9", "10:100001,0,0,0,0,0", "0:100000,0,0,0,0,0 50:1,9,9,9,9,9", "10:50000,0,0,0,0,0 11:50001,0,0,0,0,0"} {
+		for _, data := range damagedWindows() {
 			anew(t, "windows", laid(x, key, data), w, 0, impl.ErrDamaged)
 		}
 	}
 }
 
+// amount is what was got by now, what is to come to that, and the code.
+type amount struct{ got, more, want int }
+
+// amounts come to 1000, or to more than that.
+func amounts() []amount {
+	return []amount{
+		{0, 1000, impl.OK}, {1, 999, impl.OK}, {999, 1, impl.OK}, {1000, 0, impl.OK}, {500, 500, impl.OK},
+		{0, 1001, impl.ErrMany}, {1, 1000, impl.ErrMany}, {1000, 1, impl.ErrMany}, {0, 100000, impl.ErrMany}, {1, 100000, impl.ErrMany}, {1000, 100000, impl.ErrMany},
+	}
+}
+
+// data are what a window from 10 on has that is to come.
+func (a amount) data() string {
+	if a.more == 0 {
+		return ""
+	}
+	return bucketsWritten([]impl.Bucket{counted(10, a.more, 3)})
+}
+
+// agg is what was got by now.
+func (a amount) agg() impl.Agg {
+	if a.got == 0 {
+		return impl.Agg{}
+	}
+	return counted(0, a.got, 3).Agg
+}
+
 // A worker has got 1000 at most; beyond that it begins anew, as it would be none.
 func TestP9MoreThanAWorkerMayHave(t *testing.T) {
 	key := keyed(1, 10, 4)
-	for _, c := range []struct{ got, more, want int }{
-		{0, 1000, impl.OK}, {1, 999, impl.OK}, {999, 1, impl.OK}, {1000, 0, impl.OK}, {500, 500, impl.OK},
-		{0, 1001, impl.ErrMany}, {1, 1000, impl.ErrMany}, {1000, 1, impl.ErrMany}, {0, 100000, impl.ErrMany}, {1, 100000, impl.ErrMany}, {1000, 100000, impl.ErrMany},
-	} {
-		data := ""
-		if c.more > 0 {
-			data = bucketsWritten([]impl.Bucket{counted(10, c.more, 3)})
-		}
-		x := laid(mixedStore(), key, data)
-		w := impl.Worker{Id: 2, Phase: 4, Token: 5, Job: publishing(5, 2, 0, 20), Inputs: []impl.Entry{{Tier: 1, From: 10, To: 15, Key: key}}}
-		if c.got > 0 {
-			w.Got = counted(0, c.got, 3).Agg
-		}
+	for _, c := range amounts() {
+		x := laid(mixedStore(), key, c.data())
+		w := impl.Worker{Id: 2, Phase: 4, Token: 5, Job: publishing(5, 2, 0, 20), Inputs: []impl.Entry{{Tier: 1, From: 10, To: 15, Key: key}}, Got: c.agg()}
 		if c.want != impl.OK {
 			anew(t, fmt.Sprint(c), x, w, 0, c.want)
 			continue

@@ -63,93 +63,21 @@ func stepSaid(x impl.Store, w impl.Worker, now int) (impl.Store, impl.Worker, st
 	return y, v, said
 }
 
-func TestP1NoStepChangesItsStoreOrItsWorker(t *testing.T) {
-	for i, x := range pureWorkStores(t) {
-		for k, w := range pureWorkers() {
-			for _, now := range pureNows {
-				g, h := guarded(x), guardedWorker(w)
-				y, v, said := stepSaid(g, h, now)
-				if !untouched(g, x) || !untouchedWorker(h, w) {
-					t.Errorf("worker %d over store %d at %d: they are changed", k, i, now)
-				}
-				// Nor does what is done to the answer, nor the other way round.
-				before := fmt.Sprint(y, v)
-				fill(g.Objects[:cap(g.Objects)])
-				fillWorker(h)
-				if fmt.Sprint(y, v) != before {
-					t.Errorf("worker %d over store %d at %d: its arguments' memory is answered", k, i, now)
-				}
-				g, h = guarded(x), guardedWorker(w)
-				y, v, again := stepSaid(g, h, now)
-				fill(y.Objects[:cap(y.Objects)])
-				fillWorker(v)
-				if !untouched(g, x) || !untouchedWorker(h, w) || again != said {
-					t.Errorf("worker %d over store %d at %d: its arguments' memory is lent", k, i, now)
-				}
-			}
-		}
-	}
+func pureWorkerKind(t *testing.T) actors[impl.Worker] {
+	t.Helper()
+	return actors[impl.Worker]{pureWorkers(), pureWorkStores(t), pureNows, guardedWorker, untouchedWorker, fillWorker, stepSaid}
 }
 
-func TestP1AlikeWorkersHaveAlikeSteps(t *testing.T) {
-	stores, workers := pureWorkStores(t), pureWorkers()
-	var first []string
-	for _, x := range stores {
-		for _, w := range workers {
-			for _, now := range pureNows {
-				_, _, said := stepSaid(x, w, now)
-				first = append(first, said)
-			}
-		}
-	}
-	// Backwards, so that each call has others ahead of it, and with another capacity.
-	at := len(first)
-	for _, x := range slices.Backward(stores) {
-		for _, w := range slices.Backward(workers) {
-			for _, now := range slices.Backward(pureNows) {
-				at--
-				if _, _, said := stepSaid(guarded(x), guardedWorker(w), now); said != first[at] {
-					t.Errorf("a step of %.200s at %d hangs on what was called ahead", fmt.Sprint(w), now)
-				}
-			}
-		}
-	}
-}
+func TestP1NoStepChangesItsStoreOrItsWorker(t *testing.T) { pureWorkerKind(t).wantUnchanged(t) }
+
+func TestP1AlikeWorkersHaveAlikeSteps(t *testing.T) { pureWorkerKind(t).wantAlike(t) }
+
+func TestP1StepsOfOneWorkerStayApart(t *testing.T) { pureWorkerKind(t).wantApart(t) }
 
 func TestP1WorkersOfNilAndOfEmptyLists(t *testing.T) {
-	for _, x := range pureWorkStores(t) {
-		for phase := range 8 {
-			none := workerWith(busyWorker(phase), func(w *impl.Worker) { w.Inputs = nil })
-			empty := workerWith(none, func(w *impl.Worker) { w.Inputs = []impl.Entry{} })
-			_, _, one := stepSaid(x, none, 52)
-			_, _, other := stepSaid(x, empty, 52)
-			if one != other {
-				t.Errorf("phase %d: %s of nil, %s of an empty list", phase, one, other)
-			}
-		}
-	}
-	for phase := range 8 {
-		_, _, one := stepSaid(impl.Store{Next: 1}, busyWorker(phase), 52)
-		_, _, other := stepSaid(impl.Store{Next: 1, Objects: []impl.Object{}}, busyWorker(phase), 52)
-		if one != other {
-			t.Errorf("phase %d: %s of nil, %s of an empty list of objects", phase, one, other)
-		}
-	}
-}
-
-// Two steps of one worker over one store each have a store and a worker of their own.
-func TestP1StepsOfOneWorkerStayApart(t *testing.T) {
-	for i, x := range pureWorkStores(t) {
-		for k, w := range pureWorkers() {
-			y, v, code := impl.StepWorker(x, w, 52)
-			z, u, again := impl.StepWorker(x, w, 52)
-			before := fmt.Sprint(z, u)
-			fill(y.Objects[:cap(y.Objects)])
-			fillWorker(v)
-			if fmt.Sprint(z, u) != before || code != again {
-				t.Errorf("worker %d over store %d: two steps share memory", k, i)
-			}
-		}
+	for phase := -1; phase <= 8; phase++ {
+		none := workerWith(busyWorker(phase), func(w *impl.Worker) { w.Inputs = nil })
+		pureWorkerKind(t).wantSameOfEmpty(t, none, workerWith(none, func(w *impl.Worker) { w.Inputs = []impl.Entry{} }))
 	}
 }
 
